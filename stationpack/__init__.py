@@ -1,0 +1,1 @@
+"""Rows of measurements packed: the interface is stationpack.desk."""

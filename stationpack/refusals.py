@@ -1,0 +1,26 @@
+"""The refusals, an error class for each; the desk tells their numbers."""
+
+
+# -1
+class OutOfRange(Exception):
+    pass
+
+
+# -2
+class NothingThere(Exception):
+    pass
+
+
+# -3
+class NotABlock(Exception):
+    pass
+
+
+# -4
+class NotInOrder(Exception):
+    pass
+
+
+# -5
+class NoRoom(Exception):
+    pass
