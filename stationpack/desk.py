@@ -2,7 +2,7 @@
 
 from stationpack.block import read_head
 from stationpack.reader import Reader
-from stationpack.refusals import NoRoom, NotABlock, NothingThere, NotInOrder, OutOfRange
+from stationpack.refusals import NoRoom, NotABlock, NotBuilt, NothingThere, NotInOrder, OutOfRange
 from stationpack.station import Station
 
 BEGIN = 1
@@ -56,7 +56,7 @@ def accepted(station, reader):
     if call == HEAD:
         size = reader.take()
         return head_answer(read_head(reader.take_many(size)))
-    raise NotImplementedError()
+    raise NotBuilt()
 
 
 def head_answer(head):

@@ -24,3 +24,8 @@ class NotInOrder(Exception):
 # -5
 class NoRoom(Exception):
     pass
+
+
+# No number stands for this one: it is no answer, so it is not taken anywhere.
+class NotBuilt(Exception):
+    pass

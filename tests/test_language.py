@@ -14,7 +14,7 @@ STATEMENTS = (ast.FunctionDef, ast.ClassDef, ast.Assign, ast.AugAssign, ast.If, 
 EXPRESSIONS = (ast.Constant, ast.Name, ast.List, ast.Tuple, ast.Dict, ast.BinOp, ast.UnaryOp, ast.BoolOp, ast.Compare,
                ast.IfExp, ast.Call, ast.Attribute, ast.Subscript, ast.Slice, ast.ListComp, ast.Lambda)
 OWN_NAMES = set("""len range enumerate zip min max sum abs sorted reversed int str bool list tuple dict isinstance ord
-    repr any all divmod Exception KeyError ZeroDivisionError NotImplementedError""".split())
+    repr any all divmod Exception KeyError ZeroDivisionError""".split())
 METHODS = set("""append clear copy count extend find get index insert items join keys pop remove replace reverse
     setdefault update values bit_length""".split())
 WORDS = set("""type typing typing_extensions enum Enum IntEnum StrEnum Flag IntFlag Generic Protocol ABC ABCMeta
