@@ -7,11 +7,18 @@ from stationpack.reader import Reader
 from stationpack.refusals import NotABlock
 
 
+# As the head tells it: its bytes, told, need not be those of any rows.
+class Group:
+    def __init__(self, first_time, row_count, told):
+        self.first_time = first_time
+        self.row_count = row_count
+        self.told = told
+
+
 class Head:
     def __init__(self, channel, row_count, groups):
         self.channel = channel
         self.row_count = row_count
-        # A tuple for each group: its first time, how many bytes it has.
         self.groups = groups
 
 
@@ -38,19 +45,30 @@ def read_head(block):
     row_count = take_small(reader)
     if row_count < 1 or row_count > BLOCK_ROWS:
         raise NotABlock()
-    groups = take_groups(reader, row_count)
-    if sum([size for first_time, size in groups]) != reader.left():
-        raise NotABlock()
-    return Head(channel, row_count, groups)
+    return Head(channel, row_count, take_groups(reader, row_count))
 
 
 def take_groups(reader, row_count):
+    beginnings = take_beginnings(reader, row_count)
+    if sum([size for first_time, size in beginnings]) != reader.left():
+        raise NotABlock()
     groups = []
+    rows_left = row_count
+    for first_time, size in beginnings:
+        group_count = min(rows_left, GROUP_ROWS)
+        groups.append(Group(first_time, group_count, reader.take_many(size)))
+        rows_left -= group_count
+    return groups
+
+
+# A tuple for each group: its first time, how many bytes it has.
+def take_beginnings(reader, row_count):
+    beginnings = []
     first_time = 0
     for start in range(0, row_count, GROUP_ROWS):
         first_time += take_small(reader)
         if first_time > GREATEST:
             raise NotABlock()
         size = take_small(reader)
-        groups.append((first_time, size))
-    return groups
+        beginnings.append((first_time, size))
+    return beginnings

@@ -11,8 +11,23 @@ def folded(number):
     return 2 * number
 
 
+def unfolded(number):
+    if number % 2 == 1:
+        return -(number + 1) // 2
+    return number // 2
+
+
 def steps_of(numbers):
     return [numbers[k + 1] - numbers[k] for k in range(len(numbers) - 1)]
+
+
+def sums_of(steps):
+    sums = []
+    whole = 0
+    for step in steps:
+        whole += step
+        sums.append(whole)
+    return sums
 
 
 def small_bytes(number):
@@ -60,3 +75,17 @@ def take_small(reader):
             return number
         worth = worth * 128
     raise NotABlock()
+
+
+def take_side_by_side(reader, many, width):
+    numbers = []
+    held = 0
+    filled = 0
+    for k in range(many):
+        while filled < width:
+            held += take_byte(reader) << filled
+            filled += 8
+        numbers.append(held % (1 << width))
+        held = held >> width
+        filled -= width
+    return numbers

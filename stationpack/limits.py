@@ -30,3 +30,13 @@ def check_value(value):
 def check_quality(quality):
     if quality < 0 or quality > LAST_QUALITY:
         raise OutOfRange()
+
+
+def check_place(place):
+    if place < 0:
+        raise OutOfRange()
+
+
+def check_most(most):
+    if most < 0 or most > BLOCK_ROWS:
+        raise OutOfRange()

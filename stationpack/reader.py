@@ -18,3 +18,7 @@ class Reader:
         taken = self.numbers[self.place:self.place + many]
         self.place += many
         return taken
+
+    def take_counted(self):
+        many = self.take()
+        return self.take_many(many)

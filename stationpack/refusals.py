@@ -27,5 +27,5 @@ class NoRoom(Exception):
 
 
 # No number stands for this one: it is no answer, so it is not taken anywhere.
-class NotBuilt(Exception):
+class NotACall(Exception):
     pass

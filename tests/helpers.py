@@ -17,7 +17,9 @@ def split(given):
 
 
 def ask(*calls):
-    return split(answers([number for call in calls for number in call]))
+    handed = [number for call in calls for number in call]
+    assert len(handed) <= 16000 and len(calls) <= 3000, (len(handed), len(calls))
+    return split(answers(handed))
 
 
 def begin():
@@ -40,18 +42,97 @@ def head(block):
     return [5, len(block)] + block
 
 
-def packed(rows, c=0):
-    answer = ask(*[add(c, *row) for row in rows], pack(c))[-1]
+def rows(block):
+    return [6, len(block)] + block
+
+
+def row(i, block):
+    return [7, i, len(block)] + block
+
+
+def earlier(t, block):
+    return [8, t, len(block)] + block
+
+
+def from_(t, most, block):
+    return [9, t, most, len(block)] + block
+
+
+def joined(first, second):
+    return [10, len(first)] + first + [len(second)] + second
+
+
+def flat(found):
+    """Rows as they are answered, number by number."""
+    return [number for each in found for number in each]
+
+
+def packed(found, c=0):
+    answer = ask(*[add(c, *each) for each in found], pack(c))[-1]
     assert answer[0] == len(answer) - 1, answer
     return answer[1:]
 
 
-def group_of(rows):
+def group_of(found):
     """The bytes of the one group that rows of one group are packed into."""
-    block = packed(rows)
+    block = packed(found)
     answer = ask(head(block))[0]
     assert len(answer) == 4, answer
     return block[len(block) - answer[3]:]
+
+
+def small(number):
+    told = []
+    while number > 127:
+        told.append(number % 128 + 128)
+        number //= 128
+    return told + [number]
+
+
+def fold(number):
+    return small(2 * number if number >= 0 else -2 * number - 1)
+
+
+def side_by_side(numbers, width):
+    whole = sum(number << (width * k) for k, number in enumerate(numbers))
+    return list(whole.to_bytes((width * len(numbers) + 7) // 8, "little"))
+
+
+def block_of(many, groups, c=0):
+    """A block of many rows with these groups, each its first time and its bytes, whatever they are."""
+    told, before = [c] + small(many), 0
+    for first, group in groups:
+        told += small(first - before) + small(len(group))
+        before = first
+    return told + flat(group for first, group in groups)
+
+
+def groups_of(block):
+    """The groups of a block, as block_of takes them."""
+    answer = ask(head(block))[0]
+    sizes = answer[3::2]
+    start = len(block) - sum(sizes)
+    ends = summed([start] + sizes)
+    return [(first, block[ends[k]:ends[k + 1]]) for k, first in enumerate(answer[2::2])]
+
+
+def made_numbers(seed):
+    """Numbers that look like none in particular, the same each time."""
+    while True:
+        seed = (seed * 6364136223846793005 + 1442695040888963407) % 2 ** 64
+        yield seed >> 20
+
+
+def made_rows(many):
+    source = made_numbers(many)
+    found, time = [], next(source) % 1000
+    for k in range(many):
+        kind = k // 64 % 5
+        time += 60 if next(source) % 4 else next(source) % (2 ** (8 * kind))
+        width = [3, 300, 2 ** 20, 2 ** 43, 5][kind]
+        value = next(source) % width - width // 2 if next(source) % (kind + 2) or kind == 2 else NONE
+        found.append((time, value, next(source) % 3 if kind % 2 else 0))
+    return found
 
 
 class Unpacker:

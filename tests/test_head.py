@@ -2,15 +2,7 @@
 
 import unittest
 
-from helpers import NONE, TOP, add, ask, head, packed, waits
-
-
-def small(number):
-    told = []
-    while number > 127:
-        told.append(number % 128 + 128)
-        number //= 128
-    return told + [number]
+from helpers import NONE, TOP, add, ask, head, packed, small, waits
 
 
 class HeadOfBlocks(unittest.TestCase):

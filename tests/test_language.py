@@ -19,6 +19,14 @@ METHODS = set("""append clear copy count extend find get index insert items join
     setdefault update values bit_length""".split())
 WORDS = set("""type typing typing_extensions enum Enum IntEnum StrEnum Flag IntFlag Generic Protocol ABC ABCMeta
     namedtuple NamedTuple TypedDict TYPE_CHECKING abstractmethod""".split())
+# Named nowhere, or not as names: what of L17 a plain word could fall into.
+UNUSED = set("""register mro elements open input version_info with_traceback add_note attrgetter breakpoint builtins
+    compile copyright credits delattr dir eval exec exit gc getattr globals hasattr help id importlib license locals
+    methodcaller os quit setattr super sys vars format format_map sort args encode""".split())
+WALKED = ("zip", "enumerate", "reversed", "range", "items", "keys", "values")
+WALKERS = ("list", "tuple", "dict", "sorted", "sum", "any", "all", "enumerate", "zip", "min", "max")
+KEYWORDS = {("sorted", "key"), ("sorted", "reverse"), ("min", "key"), ("min", "default"), ("max", "key"),
+            ("max", "default"), ("sum", "start"), ("enumerate", "start"), ("zip", "strict")}
 DUNDERS = ("__init__", "__eq__", "__repr__", "__str__", "__len__")
 
 
@@ -102,6 +110,86 @@ class Language(unittest.TestCase):
         python = {word for kind in (str, int, list, dict, set, bytes) for word in dir(kind)}
         self.assertEqual(values & python, set())
         self.assertLessEqual(methods & python, {"add"} | set(DUNDERS))
+
+    def test_the_top_of_a_file(self):
+        for name, tree in trees():
+            self.assertIsInstance(ast.get_docstring(tree), str, name)
+            bound = []
+            for node in tree.body[1:]:
+                self.assertIsInstance(node, (ast.ImportFrom, ast.FunctionDef, ast.ClassDef, ast.Assign), (name, node.lineno))
+                if isinstance(node, ast.Assign):
+                    ast.literal_eval(node.value)
+                    bound.append(node.targets[0].id)
+                elif isinstance(node, ast.ImportFrom):
+                    self.assertEqual((node.level, node.module.split(".")[0]), (0, PACKAGE.name), name)
+                    bound += [alias.name for alias in node.names]
+                    self.assertEqual([alias.asname for alias in node.names], [None] * len(node.names), name)
+                else:
+                    bound.append(node.name)
+            self.assertEqual(len(bound), len(set(bound)), name)
+            tops = [node for node in ast.walk(tree) if isinstance(node, (ast.ClassDef, ast.ImportFrom))]
+            self.assertLessEqual(set(tops), set(tree.body), name)
+
+    def test_classes(self):
+        for name, node in nodes(ast.ClassDef):
+            self.assertLessEqual(len(node.bases), 1, (name, node.name))
+            self.assertEqual((node.keywords, node.decorator_list), ([], []), (name, node.name))
+            methods = [part.name for part in node.body if isinstance(part, ast.FunctionDef)]
+            self.assertEqual(len(methods), len(set(methods)), (name, node.name))
+            self.assertLessEqual({type(part) for part in node.body}, {ast.FunctionDef, ast.Pass}, (name, node.name))
+
+    def test_no_annotations(self):
+        for name, node in nodes((ast.FunctionDef, ast.arg)):
+            self.assertIsNone(node.returns if isinstance(node, ast.FunctionDef) else node.annotation, (name, node.lineno))
+
+    def test_is_stands_beside_written_values_alone(self):
+        for name, node in nodes(ast.Compare):
+            for op, right in zip(node.ops, node.comparators):
+                if isinstance(op, (ast.Is, ast.IsNot)):
+                    self.assertIn(getattr(right, "value", 0), (None, True, False), (name, node.lineno))
+
+    def test_errors_are_the_programs_own(self):
+        own = {node.name for name, node in nodes(ast.ClassDef)}
+        for name, node in nodes(ast.Try):
+            self.assertEqual(node.finalbody, [], (name, node.lineno))
+        for name, node in nodes(ast.ExceptHandler):
+            self.assertIn(node.type.id, own | {"KeyError", "ZeroDivisionError"}, (name, node.lineno))
+        for name, node in nodes(ast.Raise):
+            self.assertIn(node.exc.func.id, own, (name, node.lineno))
+
+    def test_names_that_are_not_used(self):
+        for name, node in nodes((ast.Name, ast.Attribute, ast.arg, ast.FunctionDef, ast.ClassDef)):
+            word = [getattr(node, part) for part in ("id", "attr", "arg", "name") if hasattr(node, part)][0]
+            self.assertNotIn(word, UNUSED, (name, node.lineno))
+
+    def test_keywords(self):
+        own = {node.name for name, node in nodes((ast.FunctionDef, ast.ClassDef))}
+        for name, node in nodes(ast.Call):
+            for keyword in node.keywords:
+                called = getattr(node.func, "id", None) or node.func.attr
+                self.assertTrue(called in own or (called, keyword.arg) in KEYWORDS, (name, node.lineno))
+
+    def test_walked_at_once(self):
+        on_the_spot = []
+        for name, node in nodes((ast.For, ast.comprehension)):
+            on_the_spot.append(ast.dump(node.iter, include_attributes=True))
+        for name, node in nodes(ast.Call):
+            if getattr(node.func, "id", None) in WALKERS:
+                on_the_spot += [ast.dump(part, include_attributes=True) for part in node.args[:1]]
+        for name, node in nodes(ast.Call):
+            called = getattr(node.func, "id", None) or getattr(node.func, "attr", None)
+            if called in WALKED:
+                self.assertIn(ast.dump(node, include_attributes=True), on_the_spot, (name, node.lineno))
+
+    def test_comprehensions_have_one_for_and_at_most_one_if(self):
+        for name, node in nodes(ast.ListComp):
+            self.assertEqual(len(node.generators), 1, (name, node.lineno))
+            self.assertLessEqual(len(node.generators[0].ifs), 1, (name, node.lineno))
+
+    def test_texts(self):
+        for name, node in nodes(ast.Constant):
+            if isinstance(node.value, str):
+                self.assertNotIn("%", node.value, (name, node.lineno))
 
 
 if __name__ == "__main__":

@@ -2,7 +2,7 @@
 
 import unittest
 
-from helpers import NONE, TOP, Unpacker, add, ask, group_of, pack, packed, waits
+from helpers import NONE, TOP, Unpacker, add, ask, group_of, made_numbers, made_rows, pack, packed, waits
 
 
 def values_told(values):
@@ -17,13 +17,6 @@ def times_told(times):
     group = group_of([(time, NONE, 0) for time in times])
     assert group[-2:] == [2, 0], group
     return group[:-2]
-
-
-def made_numbers(seed):
-    """Numbers that look like none in particular, the same each time."""
-    while True:
-        seed = (seed * 6364136223846793005 + 1442695040888963407) % 2 ** 64
-        yield seed >> 20
 
 
 class Refused(unittest.TestCase):
@@ -102,18 +95,6 @@ class Blocks(unittest.TestCase):
                 lengths = way_lengths(values)
                 self.assertEqual(len(told), min(lengths))
                 self.assertEqual(told[0], lengths.index(min(lengths)))
-
-
-def made_rows(many):
-    source = made_numbers(many)
-    rows, time = [], next(source) % 1000
-    for k in range(many):
-        kind = k // 64 % 5
-        time += 60 if next(source) % 4 else next(source) % (2 ** (8 * kind))
-        width = [3, 300, 2 ** 20, 2 ** 43, 5][kind]
-        value = next(source) % width - width // 2 if next(source) % (kind + 2) or kind == 2 else NONE
-        rows.append((time, value, next(source) % 3 if kind % 2 else 0))
-    return rows
 
 
 def way_lengths(values):
